@@ -7,7 +7,6 @@ import (
 	"slices"
 	"strings"
 	"testing"
-	"unsafe"
 
 	"loop.example/g01117/impl"
 )
@@ -137,7 +136,7 @@ func spansOf(v reflect.Value) []span {
 		}
 	case reflect.Slice:
 		if v.Cap() > 0 {
-			from := uintptr(unsafe.Pointer(v.Pointer()))
+			from := v.Pointer()
 			spans = append(spans, span{from, from + uintptr(v.Cap())*v.Type().Elem().Size()})
 		}
 		for i := range v.Len() {
