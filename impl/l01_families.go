@@ -75,6 +75,17 @@ func (g holderSet) renamed(order []int64) holderSet {
 	return result
 }
 
+// weight returns the sum of the weights of the holders.
+func (g holderSet) weight(weights []int64) int64 {
+	sum := int64(0)
+	for h, weight := range weights {
+		if g.has(int64(h)) {
+			sum += weight
+		}
+	}
+	return sum
+}
+
 func (g holderSet) list() []int64 {
 	list := make([]int64, 0, g.size())
 	for h := range int64(MaxHolders) {
@@ -176,13 +187,22 @@ func (t *openTable) areAlike(i, j int64) bool {
 	return true
 }
 
-// groupsWhere returns the groups of so many holders for which chosen is true, in lexicographic order.
-func groupsWhere(holders int64, chosen func(holderSet) bool) [][]int64 {
-	groups := [][]int64{}
+// setsWhere returns the groups of so many holders for which chosen is true, in lexicographic order.
+func setsWhere(holders int64, chosen func(holderSet) bool) []holderSet {
+	var sets []holderSet
 	for g := range groupsOf(holders) {
 		if chosen(g) {
-			groups = append(groups, g.list())
+			sets = append(sets, g)
 		}
+	}
+	return sets
+}
+
+// groupsWhere returns the same groups as lists.
+func groupsWhere(holders int64, chosen func(holderSet) bool) [][]int64 {
+	groups := [][]int64{}
+	for _, g := range setsWhere(holders, chosen) {
+		groups = append(groups, g.list())
 	}
 	return groups
 }
@@ -533,13 +553,7 @@ func WeightedFamily(weights []int64, quota int64) (Family, int64) {
 			return Family{}, ErrRange
 		}
 	}
-	return familyWhere(int64(len(weights)), func(g holderSet) bool {
-		sum := int64(0)
-		for _, h := range g.list() {
-			sum += weights[h]
-		}
-		return sum >= quota
-	}), OK
+	return familyWhere(int64(len(weights)), func(g holderSet) bool { return g.weight(weights) >= quota }), OK
 }
 
 // NeededHolders returns the holders of least groups.

@@ -53,6 +53,10 @@ func trialsOf(kind reflect.Type) []reflect.Value {
 		for _, f := range trialFamilies() {
 			add(f)
 		}
+	case impl.Gate:
+		for _, g := range trialGates() {
+			add(g)
+		}
 	}
 	return list
 }
@@ -98,11 +102,22 @@ func roomyCopy(v reflect.Value) reflect.Value {
 	return result
 }
 
+// markOf returns a value of a type that no argument has, and which holds no slices of structs.
 func markOf(kind reflect.Type) reflect.Value {
-	if kind.Kind() == reflect.Int64 {
-		return reflect.ValueOf(int64(-77))
+	mark := reflect.New(kind).Elem()
+	switch kind.Kind() {
+	case reflect.Int64:
+		mark.SetInt(-77)
+	case reflect.Slice:
+		if kind.Elem().Kind() == reflect.Int64 {
+			mark.Set(reflect.ValueOf([]int64{-77}))
+		}
+	case reflect.Struct:
+		for i := range kind.NumField() {
+			mark.Field(i).Set(markOf(kind.Field(i).Type))
+		}
 	}
-	return reflect.ValueOf([]int64{-77})
+	return mark
 }
 
 // wholeText writes a value with the unused capacity of its slices.
