@@ -57,6 +57,10 @@ func trialsOf(kind reflect.Type) []reflect.Value {
 		for _, g := range trialGates() {
 			add(g)
 		}
+	case impl.Matrix:
+		for _, m := range trialMatrices() {
+			add(m)
+		}
 	}
 	return list
 }
@@ -248,15 +252,34 @@ func combine(lists [][]reflect.Value, trial func([]reflect.Value)) {
 	choose(0)
 }
 
-func TestPromise1AllArguments(t *testing.T) {
-	for name, f := range chapter1() {
+// tryAll calls functions with all choices of the trials for their arguments; those named in few, with fewer trials.
+func tryAll(t *testing.T, functions map[string]any, few ...string) {
+	for name, f := range functions {
 		function := reflect.ValueOf(f)
 		var lists [][]reflect.Value
 		for i := range function.Type().NumIn() {
-			lists = append(lists, trialsOf(function.Type().In(i)))
+			trials := trialsOf(function.Type().In(i))
+			if slices.Contains(few, name) {
+				trials = fewTrials(trials, 14)
+			}
+			lists = append(lists, trials)
 		}
 		combine(lists, func(args []reflect.Value) { tryCall(t, name, function, args) })
 	}
+}
+
+// fewTrials returns about so many of a list of trials, as all choices from four whole lists would be too many.
+func fewTrials(list []reflect.Value, few int) []reflect.Value {
+	step := 1 + len(list)/few
+	var result []reflect.Value
+	for i := len(list) - 1; i >= 0; i -= step {
+		result = append(result, list[i])
+	}
+	return result
+}
+
+func TestPromise1AllArguments(t *testing.T) {
+	tryAll(t, chapter1())
 }
 
 // TestPromise1SharedArguments gives the same memory twice: as both families, or as all groups.

@@ -134,15 +134,7 @@ func TestPromise2NearlyTexts(t *testing.T) {
 	const letters = "\n -,ABCDGHaf+03478\r\t\x00\xff"
 	for _, text := range []string{"family 1\n", "family 7\n-\n", "family 3\nAB\nAC\n", "family 4\nABD\nAC\nBC\n", "family 3\nA\nB\nC\n", "family 7\nABCDEFG\n"} {
 		nearly := []string{text, text + text, text[7:], strings.ToUpper(text), strings.ToLower(text)}
-		for i := 0; i <= len(text); i++ {
-			for _, letter := range []byte(letters) {
-				nearly = append(nearly, text[:i]+string([]byte{letter})+text[i:])
-				if i < len(text) {
-					nearly = append(nearly, text[:i]+string([]byte{letter})+text[i+1:], text[:i]+text[i+1:], text[:i])
-				}
-			}
-		}
-		for _, s := range nearly {
+		for _, s := range append(nearly, nearlyTexts(text, letters)...) {
 			if f, ok := readByDefinition(s); ok {
 				expect(t, "ReadFamily of "+s, show(impl.ReadFamily(s)), f, impl.OK)
 			} else {

@@ -28,29 +28,8 @@ func trialGates() []impl.Gate {
 	return gates
 }
 
-// fewTrials returns about so many of a list of trials, as all choices from four whole lists would be too many.
-func fewTrials(list []reflect.Value, few int) []reflect.Value {
-	step := 1 + len(list)/few
-	var result []reflect.Value
-	for i := len(list) - 1; i >= 0; i -= step {
-		result = append(result, list[i])
-	}
-	return result
-}
-
 func TestPromise1AllArgumentsOfGates(t *testing.T) {
-	for name, f := range chapter2() {
-		function := reflect.ValueOf(f)
-		var lists [][]reflect.Value
-		for i := range function.Type().NumIn() {
-			trials := trialsOf(function.Type().In(i))
-			if name == "PutGate" {
-				trials = fewTrials(trials, 14)
-			}
-			lists = append(lists, trials)
-		}
-		combine(lists, func(args []reflect.Value) { tryCall(t, name, function, args) })
-	}
+	tryAll(t, chapter2(), "PutGate")
 	for text := range strings.SplitSeq("A;C;1(A, B);2(A, B, 1(C, A));1(1(A;0(A);9(A);1(A))", ";") {
 		for holders := range int64(9) {
 			tryCall(t, "ReadGate", reflect.ValueOf(impl.ReadGate), []reflect.Value{reflect.ValueOf(holders), reflect.ValueOf(text)})

@@ -114,15 +114,7 @@ func TestPromise4NearlyTexts(t *testing.T) {
 	found := 0
 	for _, text := range []string{"A", "1(C)", "2(A, B)", "2(A, B, 1(C, A))", "1(1(1(B)), 2(A, 1(C)))", "3(A, B, C)", "1(11(A), 2(B))", "0(A)"} {
 		nearly := []string{text, text + text, text + ", " + text, strings.ToLower(text), strings.ReplaceAll(text, " ", "")}
-		for i := 0; i <= len(text); i++ {
-			for _, letter := range []byte(letters) {
-				nearly = append(nearly, text[:i]+string([]byte{letter})+text[i:])
-				if i < len(text) {
-					nearly = append(nearly, text[:i]+string([]byte{letter})+text[i+1:], text[:i]+text[i+1:], text[:i], text[i:])
-				}
-			}
-		}
-		for _, s := range nearly {
+		for _, s := range append(nearly, nearlyTexts(text, letters)...) {
 			if g, ok := gateWithText(s); ok && isGate(3, g) {
 				found++
 				expect(t, "ReadGate of "+s, show(impl.ReadGate(3, s)), g, impl.OK)

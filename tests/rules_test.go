@@ -211,6 +211,23 @@ func repeat[T any](value T, times int) []T {
 	return slices.Repeat([]T{value}, times)
 }
 
+// nearlyTexts returns a text with one byte changed to, or one added from, letters, and with one byte or all from it or before it removed.
+func nearlyTexts(text, letters string) []string {
+	var nearly []string
+	for i := 0; i <= len(text); i++ {
+		for _, letter := range []byte(letters) {
+			nearly = append(nearly, text[:i]+string([]byte{letter})+text[i:])
+			if i < len(text) {
+				nearly = append(nearly, text[:i]+string([]byte{letter})+text[i+1:])
+			}
+		}
+		if i < len(text) {
+			nearly = append(nearly, text[:i]+text[i+1:], text[:i], text[i:])
+		}
+	}
+	return nearly
+}
+
 func nobody(holders int64) impl.Family { return impl.Family{Holders: holders} }
 
 func everybody(holders int64) impl.Family {
