@@ -61,6 +61,10 @@ func trialsOf(kind reflect.Type) []reflect.Value {
 		for _, m := range trialMatrices() {
 			add(m)
 		}
+	case impl.Scheme:
+		for _, s := range trialSchemes() {
+			add(s)
+		}
 	}
 	return list
 }

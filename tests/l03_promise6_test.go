@@ -360,25 +360,8 @@ func TestPromise6Echelons(t *testing.T) {
 
 func TestPromise6Kernels(t *testing.T) {
 	everyMatrix(func(m impl.Matrix) {
-		s, _ := spanOf(m.Prime, m.Rows)
-		var free []int64
-		for col := range m.Cols {
-			if s.first[int(col)] == nil {
-				free = append(free, col)
-			}
-		}
-		k, code := impl.KernelOf(m)
-		if code != impl.OK || !isMatrix(k) || k.Prime != m.Prime || k.Cols != m.Cols || len(k.Rows) != len(free) {
+		if k, code := impl.KernelOf(m); code != impl.OK || !isKernel(m, k) {
 			t.Errorf("KernelOf of %v: got %v, %d", m, k, code)
-			return
-		}
-		for i, list := range k.Rows {
-			for other, col := range free {
-				expect(t, "a column of the kernel of "+matrixText(m), show(list[col] == 1, list[col] == 0), i == other, i != other)
-			}
-			for _, row := range m.Rows {
-				expect(t, "a product with the kernel of "+matrixText(m), show(dot(m.Prime, row, list)), 0)
-			}
 		}
 	})
 	for cols := range int64(13) {

@@ -241,6 +241,33 @@ func isSolution(m impl.Matrix, values, list []int64) bool {
 	return true
 }
 
+// isKernel reports whether a matrix is what KernelOf is to return.
+func isKernel(m, k impl.Matrix) bool {
+	s, _ := spanOf(m.Prime, m.Rows)
+	var free []int64
+	for col := range m.Cols {
+		if s.first[int(col)] == nil {
+			free = append(free, col)
+		}
+	}
+	if !isMatrix(k) || k.Prime != m.Prime || k.Cols != m.Cols || len(k.Rows) != len(free) {
+		return false
+	}
+	for i, list := range k.Rows {
+		for other, col := range free {
+			if (list[col] == 1) != (i == other) || (list[col] == 0) != (i != other) {
+				return false
+			}
+		}
+		for _, row := range m.Rows {
+			if dot(m.Prime, row, list) != 0 {
+				return false
+			}
+		}
+	}
+	return true
+}
+
 // allLists returns all lists of so many elements.
 func allLists(p int64, length int) [][]int64 {
 	lists := [][]int64{{}}
