@@ -65,6 +65,10 @@ func trialsOf(kind reflect.Type) []reflect.Value {
 		for _, s := range trialSchemes() {
 			add(s)
 		}
+	case []impl.Share:
+		for _, shares := range trialShares() {
+			add(shares)
+		}
 	}
 	return list
 }
