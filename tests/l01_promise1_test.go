@@ -69,6 +69,14 @@ func trialsOf(kind reflect.Type) []reflect.Value {
 		for _, shares := range trialShares() {
 			add(shares)
 		}
+	case impl.Table:
+		for _, x := range trialTables() {
+			add(x)
+		}
+	case []impl.Row:
+		for _, x := range trialTables() {
+			add(x.Rows)
+		}
 	}
 	return list
 }
@@ -227,6 +235,18 @@ func tryCall(t *testing.T, name string, function reflect.Value, given []reflect.
 		t.Errorf("%s of %s: a result shares memory", name, before)
 	}
 	checkCode(t, name+" of "+before, results)
+}
+
+// trier returns tryCall for functions by their names, with arguments of any types.
+func trier(t *testing.T, functions map[string]any) func(name string, args ...any) {
+	return func(name string, args ...any) {
+		t.Helper()
+		var values []reflect.Value
+		for _, arg := range args {
+			values = append(values, reflect.ValueOf(arg))
+		}
+		tryCall(t, name, reflect.ValueOf(functions[name]), values)
+	}
 }
 
 // checkCode checks that nothing is returned together with an error.

@@ -38,13 +38,7 @@ func TestPromise1AllArgumentsOfRows(t *testing.T) {
 
 // TestPromise1SharesForSchemes gives groups, shares, blinds and matrices that fit the schemes, so that they are not just refused.
 func TestPromise1SharesForSchemes(t *testing.T) {
-	try := func(name string, args ...any) {
-		var values []reflect.Value
-		for _, arg := range args {
-			values = append(values, reflect.ValueOf(arg))
-		}
-		tryCall(t, name, reflect.ValueOf(chapter4()[name]), values)
-	}
+	try := trier(t, chapter4())
 	draw := drawer(4)
 	for _, s := range append(trialSchemes(), smallSchemes()[:40]...) {
 		if !isScheme(s) {

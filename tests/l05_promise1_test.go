@@ -47,13 +47,7 @@ func TestPromise1AllArgumentsOfCurves(t *testing.T) {
 
 // TestPromise1CurvesThatFit gives arguments that fit together, so that they are not just refused.
 func TestPromise1CurvesThatFit(t *testing.T) {
-	try := func(name string, args ...any) {
-		var values []reflect.Value
-		for _, arg := range args {
-			values = append(values, reflect.ValueOf(arg))
-		}
-		tryCall(t, name, reflect.ValueOf(chapter5()[name]), values)
-	}
+	try := trier(t, chapter5())
 	for _, p := range allPrimes() {
 		draw := drawer(uint64(p) + 1080)
 		for count := range mostShares(p) + 1 {
