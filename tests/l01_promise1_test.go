@@ -77,6 +77,18 @@ func trialsOf(kind reflect.Type) []reflect.Value {
 		for _, x := range trialTables() {
 			add(x.Rows)
 		}
+	case impl.Ranks:
+		for _, r := range trialRanks() {
+			add(r)
+		}
+	case []impl.Term:
+		for _, terms := range trialTerms() {
+			add(terms)
+		}
+	case impl.Sequence:
+		for _, q := range trialSequences() {
+			add(q)
+		}
 	}
 	return list
 }
