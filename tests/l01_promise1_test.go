@@ -89,6 +89,18 @@ func trialsOf(kind reflect.Type) []reflect.Value {
 		for _, q := range trialSequences() {
 			add(q)
 		}
+	case impl.Deal:
+		for _, d := range trialDeals() {
+			add(d)
+		}
+	case impl.Deed:
+		for _, d := range slices.Concat(brokenDeeds(), trialDeeds()[3]) {
+			add(d)
+		}
+	case []impl.Deed:
+		for _, list := range trialDeeds() {
+			add(list)
+		}
 	}
 	return list
 }
